@@ -1,0 +1,1 @@
+"""Pages of dots: black and white pages, thirty-two places to a word."""
