@@ -6,6 +6,7 @@ column c. So a row is moved, joined and turned over as a whole, wherever its wor
 
 LONGEST_SIDE = 256
 FARTHEST_MOVE = 256
+FARTHEST_REACH = 32
 LAST_TABLE = 255
 WORD_BITS = 32
 WORD_FULL = 4294967295
@@ -129,3 +130,65 @@ def do_move(dx, dy, w, h, x):
     if not (move_fits(right) and move_fits(down) and size_fits(w, h)):
         return [-2]
     return answer_page(w, moved_page(page_from_words(w, h, x), right, down, black_row(w)))
+
+
+def reach_fits(dx, dy):
+    return 0 <= dx <= FARTHEST_REACH and 0 <= dy <= FARTHEST_REACH
+
+
+def wider_row(row, dx, black):
+    wide = row
+    for step in range(1, dx + 1):
+        wide = wide | (row << step) | (row >> step)
+    return wide & black
+
+
+def joined_rows(rows):
+    joined = 0
+    for row in rows:
+        joined = joined | row
+    return joined
+
+
+def thicker_page(page, dx, dy, black):
+    wide = [wider_row(row, dx, black) for row in page]
+    # The slice ends with the page by itself; only its beginning could fall below 0 and count from the end.
+    return [joined_rows(wide[max(0, r - dy):r + dy + 1]) for r in range(len(wide))]
+
+
+def turned_over(page, black):
+    return [row ^ black for row in page]
+
+
+def thinner_page(page, dx, dy, black):
+    # A box has nothing but dots just where no white place of the page is in it. What lies beyond the page is in no
+    # box, so the page is turned over within its width and height alone.
+    return turned_over(thicker_page(turned_over(page, black), dx, dy, black), black)
+
+
+def do_thicker(dx, dy, w, h, x):
+    if not (reach_fits(dx, dy) and size_fits(w, h)):
+        return [-2]
+    return answer_page(w, thicker_page(page_from_words(w, h, x), dx, dy, black_row(w)))
+
+
+def do_thinner(dx, dy, w, h, x):
+    if not (reach_fits(dx, dy) and size_fits(w, h)):
+        return [-2]
+    return answer_page(w, thinner_page(page_from_words(w, h, x), dx, dy, black_row(w)))
+
+
+def do_open(dx, dy, w, h, x):
+    if not (reach_fits(dx, dy) and size_fits(w, h)):
+        return [-2]
+    black = black_row(w)
+    thin = thinner_page(page_from_words(w, h, x), dx, dy, black)
+    return answer_page(w, thicker_page(thin, dx, dy, black))
+
+
+def do_close(dx, dy, w, h, x):
+    if not (reach_fits(dx, dy) and size_fits(w, h)):
+        return [-2]
+    black = black_row(w)
+    thick = thicker_page(page_from_words(w, h, x), dx, dy, black)
+    return answer_page(w, thinner_page(thick, dx, dy, black))

@@ -16,6 +16,10 @@ INTERFACE = {
     "do_spread": "w, h, x",
     "do_three": "t, w, h, x, y, z",
     "do_move": "dx, dy, w, h, x",
+    "do_thicker": "dx, dy, w, h, x",
+    "do_thinner": "dx, dy, w, h, x",
+    "do_open": "dx, dy, w, h, x",
+    "do_close": "dx, dy, w, h, x",
 }
 
 NODES = set("""Module Expr Constant FunctionDef arguments arg Return If While For Break Continue Pass Assign AugAssign
