@@ -2,12 +2,19 @@
 
 Within this file a page is a list of rows, from above, and a row is one whole number: its bit c is the place in
 column c. So a row is moved, joined and turned over as a whole, wherever its words begin and end.
+
+Where a place is asked about its neighbours the page is a sheet: one whole number with all rows, behind each a white
+column. A neighbour is then the same number of bits away from every place, and beyond a row's end lies white.
 """
 
 LONGEST_SIDE = 256
 FARTHEST_MOVE = 256
 FARTHEST_REACH = 32
 LAST_TABLE = 255
+LAST_PATTERN = 511
+MOST_TO_KEEP = 9
+# The eight as a clock goes, by their numbers among the nine.
+CLOCK = (1, 2, 5, 8, 7, 6, 3, 0)
 WORD_BITS = 32
 WORD_FULL = 4294967295
 FIRST_NEGATIVE = 2147483648
@@ -39,12 +46,24 @@ def page_from_words(w, h, x):
     return [row_from_words(x[r * width:(r + 1) * width]) & black for r in range(h)]
 
 
-def answer_page(w, page):
-    answer = [0]
+def words_from_page(w, page):
+    words = []
     for row in page:
         for k in range(words_in_row(w)):
-            answer.append((row >> (WORD_BITS * k)) & WORD_FULL)
-    return answer
+            words.append((row >> (WORD_BITS * k)) & WORD_FULL)
+    return words
+
+
+def answer_page(w, page):
+    return [0] + words_from_page(w, page)
+
+
+def row_places(row, w):
+    return [(row >> c) & 1 for c in range(w)]
+
+
+def column_places(page, c):
+    return [(row >> c) & 1 for row in page]
 
 
 def row_from_bytes(row_bytes):
@@ -70,8 +89,7 @@ def do_spread(w, h, x):
         return [-2]
     answer = [0]
     for row in page_from_words(w, h, x):
-        for c in range(w):
-            answer.append((row >> c) & 1)
+        answer.extend(row_places(row, w))
     return answer
 
 
@@ -192,3 +210,109 @@ def do_close(dx, dy, w, h, x):
     black = black_row(w)
     thick = thicker_page(page_from_words(w, h, x), dx, dy, black)
     return answer_page(w, thinner_page(thick, dx, dy, black))
+
+
+def sheet_from_page(w, page):
+    sheet = 0
+    for r, row in enumerate(page):
+        sheet = sheet | (row << (r * (w + 1)))
+    return sheet
+
+
+def page_from_sheet(w, h, sheet):
+    black = black_row(w)
+    return [(sheet >> (r * (w + 1))) & black for r in range(h)]
+
+
+def sheet_seen_from(sheet, steps):
+    # The place that is so many steps on comes to lie under the place itself.
+    return sheet >> steps if steps >= 0 else sheet << (-steps)
+
+
+def nine_of(w, sheet):
+    return [sheet_seen_from(sheet, (k // 3 - 1) * (w + 1) + k % 3 - 1) for k in range(9)]
+
+
+def eight_of(w, sheet):
+    nine = nine_of(w, sheet)
+    return [nine[k] for k in CLOCK]
+
+
+def fitting_places(nine, black, white, places):
+    fitting = places
+    for k, near in enumerate(nine):
+        if (black >> k) & 1 == 1:
+            fitting = fitting & near
+        if (white >> k) & 1 == 1:
+            fitting = fitting & (near ^ places)
+    return fitting
+
+
+def do_fit(black, white, w, h, x):
+    if not (0 <= black <= LAST_PATTERN and 0 <= white <= LAST_PATTERN and size_fits(w, h)):
+        return [-2]
+    nine = nine_of(w, sheet_from_page(w, page_from_words(w, h, x)))
+    places = sheet_from_page(w, [black_row(w)] * h)
+    return answer_page(w, page_from_sheet(w, h, fitting_places(nine, black, white, places)))
+
+
+def where_enough(sheets, places):
+    """Gives for each k, up to one more than there are sheets, those of the places where k sheets or more are black."""
+    enough = [places] + [0] * (len(sheets) + 1)
+    for seen, sheet in enumerate(sheets):
+        # From above, so that a sheet is counted once.
+        for k in range(seen + 1, 0, -1):
+            enough[k] = enough[k] | (enough[k - 1] & sheet)
+    return enough
+
+
+def do_keep(k, w, h, x):
+    if not (0 <= k <= MOST_TO_KEEP and size_fits(w, h)):
+        return [-2]
+    sheet = sheet_from_page(w, page_from_words(w, h, x))
+    return answer_page(w, page_from_sheet(w, h, where_enough(eight_of(w, sheet), sheet)[k]))
+
+
+def without(sheet, gone):
+    return sheet ^ (sheet & gone)
+
+
+def dots_that_may_go(eight, sheet):
+    black = where_enough(eight, sheet)
+    # A black one follows a white one where the next is black without this one.
+    follows = where_enough([without(eight[(k + 1) % 8], eight[k]) for k in range(8)], sheet)
+    return without(black[2], black[7]) & without(follows[1], follows[2])
+
+
+def half_a_round(w, sheet, first, second):
+    eight = eight_of(w, sheet)
+    going = dots_that_may_go(eight, sheet)
+    for three in (first, second):
+        going = without(going, eight[three[0]] & eight[three[1]] & eight[three[2]])
+    return without(sheet, going)
+
+
+def whole_round(w, sheet):
+    return half_a_round(w, half_a_round(w, sheet, (0, 2, 4), (2, 4, 6)), (0, 2, 6), (0, 4, 6))
+
+
+def do_thin(w, h, x):
+    if not size_fits(w, h):
+        return [-2]
+    rounds = 0
+    sheet = sheet_from_page(w, page_from_words(w, h, x))
+    left = whole_round(w, sheet)
+    while left != sheet:
+        rounds = rounds + 1
+        sheet = left
+        left = whole_round(w, sheet)
+    return [rounds] + words_from_page(w, page_from_sheet(w, h, sheet))
+
+
+def do_counts(w, h, x):
+    if not size_fits(w, h):
+        return [-2]
+    page = page_from_words(w, h, x)
+    columns = [sum(column_places(page, c)) for c in range(w)]
+    rows = [sum(row_places(row, w)) for row in page]
+    return [sum(rows), w] + columns + [h] + rows

@@ -1,6 +1,6 @@
 """What the tests share: pages told place by place, apart from how the program holds them."""
 
-SIDES = (1, 31, 32, 33, 64, 65, 255, 256)
+SIDES = (1, 2, 31, 32, 33, 64, 65, 255, 256)
 TOP = 4294967295
 
 
@@ -36,6 +36,30 @@ def grid(w, h, seed, black=128):
 
 def plain(w, h, colour):
     return [[colour] * w for unused in range(h)]
+
+
+def picture(*lines):
+    return [[1 if sign == "#" else 0 for sign in line] for line in lines]
+
+
+def at(dots, c, r):
+    """Beyond the page all is white."""
+    return dots[r][c] if 0 <= r < len(dots) and 0 <= c < len(dots[0]) else 0
+
+
+def edge_dots(w, h):
+    """Pages with one dot: in each corner and amid each edge."""
+    pages = []
+    for c, r in sorted({(0, 0), (w - 1, 0), (0, h - 1), (w - 1, h - 1), (w // 2, 0), (w // 2, h - 1), (0, h // 2),
+                        (w - 1, h // 2)}):
+        pages.append(plain(w, h, 0))
+        pages[-1][r][c] = 1
+    return pages
+
+
+def frame(w, h):
+    """Every place along the edges a dot, and none else."""
+    return [[1 if c in (0, w - 1) or r in (0, h - 1) else 0 for c in range(w)] for r in range(h)]
 
 
 def words(rows, behind=0):
@@ -75,6 +99,13 @@ def check_answer(case, expected, function, *args):
     second = function(*again)
     case.assertTrue(second == expected, "%s answers otherwise the second time" % function.__name__)
     case.assertTrue(again == list(args), "%s changed what was handed in" % function.__name__)
+
+
+def check_page(case, first, expected, function, numbers, dots):
+    """function(*numbers, w, h, page) answers the number first and the page expected, whatever the bits behind are."""
+    for behind in (0, 1):
+        handed = words(dots, behind)
+        check_answer(case, [first] + words(expected), function, *numbers, len(dots[0]), len(dots), handed)
 
 
 def check_refused(case, function, *args):

@@ -1,7 +1,7 @@
 import unittest
 
 from dotpages.dots import do_close, do_open, do_thicker, do_thinner
-from tests.helper import TOP, check_answer, check_refused, check_sizes_refused, grid, plain, sizes, words
+from tests.helper import TOP, check_answer, check_refused, check_sizes_refused, grid, picture, plain, sizes, words
 
 REACHES = (0, 1, 31, 32)
 PAIRS = [(dx, dy) for dx in REACHES for dy in REACHES] + [(2, 5), (7, 3)]
@@ -52,10 +52,6 @@ def asked_one_by_one(dots, dx, dy, ask):
     w, h = len(dots[0]), len(dots)
     return [[1 if ask(dots[j][i] for j in range(h) for i in range(w) if abs(i - c) <= dx and abs(j - r) <= dy) else 0
              for c in range(w)] for r in range(h)]
-
-
-def picture(*lines):
-    return [[1 if sign == "#" else 0 for sign in line] for line in lines]
 
 
 class Boxes(unittest.TestCase):

@@ -20,6 +20,10 @@ INTERFACE = {
     "do_thinner": "dx, dy, w, h, x",
     "do_open": "dx, dy, w, h, x",
     "do_close": "dx, dy, w, h, x",
+    "do_fit": "black, white, w, h, x",
+    "do_keep": "k, w, h, x",
+    "do_thin": "w, h, x",
+    "do_counts": "w, h, x",
 }
 
 NODES = set("""Module Expr Constant FunctionDef arguments arg Return If While For Break Continue Pass Assign AugAssign
@@ -85,7 +89,9 @@ class Language(unittest.TestCase):
         for path in sources():
             for node in ast.parse(path.read_text()).body:
                 value = node.value if isinstance(node, (ast.Assign, ast.Expr)) else None
-                self.assertTrue(isinstance(node, ast.FunctionDef) or isinstance(value, ast.Constant))
+                values = value.elts if isinstance(value, ast.Tuple) else [value]
+                plain = all(isinstance(part, ast.Constant) for part in values)
+                self.assertTrue(isinstance(node, ast.FunctionDef) or plain)
 
 
 class Interface(unittest.TestCase):

@@ -44,7 +44,7 @@ class Three(unittest.TestCase):
     def test_all_sizes(self):
         for k, (w, h) in enumerate(sizes()):
             pages = [grid(w, h, seed) for seed in (w, h + 300, w + h + 600)]
-            for t in (2 ** (k % 8), 0, 255, 150, k * 4 + 1):
+            for t in (2 ** (k % 8), 0, 255, 150, k * 3 + 1):
                 with self.subTest(w=w, h=h, t=t):
                     self.check(t, *pages)
 
