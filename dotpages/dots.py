@@ -316,3 +316,56 @@ def do_counts(w, h, x):
     columns = [sum(column_places(page, c)) for c in range(w)]
     rows = [sum(row_places(row, w)) for row in page]
     return [sum(rows), w] + columns + [h] + rows
+
+
+def do_runs(r, w, h, x):
+    if not (size_fits(w, h) and 0 <= r < h):
+        return [-2]
+    row = page_from_words(w, h, x)[r]
+    # A place that isn't like the one to its left begins a run or, the next time, lies just behind it.
+    changes = [c for c, change in enumerate(row_places(row ^ (row << 1), w + 1)) if change == 1]
+    count = len(changes) // 2
+    lengths = [changes[2 * k + 1] - changes[2 * k] for k in range(count)]
+    return [count, count] + changes[0::2] + [count] + lengths
+
+
+def row_from_last(places):
+    row = 0
+    for place in places:
+        row = (row << 1) | place
+    return row
+
+
+def quarter_turned(w, page):
+    # The column of the first row is the last, so each new row has its places from the last on.
+    return [row_from_last(column_places(page, c)) for c in range(w)]
+
+
+def do_turn(q, w, h, x):
+    if not (0 <= q <= 3 and size_fits(w, h)):
+        return [-2]
+    wide = w
+    page = page_from_words(w, h, x)
+    for quarter in range(q):
+        high = len(page)
+        page = quarter_turned(wide, page)
+        wide = high
+    return answer_page(wide, page)
+
+
+def do_mirror(w, h, x):
+    if not size_fits(w, h):
+        return [-2]
+    return answer_page(w, [row_from_last(row_places(row, w)) for row in page_from_words(w, h, x)])
+
+
+def half_row(k, w, above, below):
+    enough = where_enough([above, above >> 1, below, below >> 1], black_row(w))[k]
+    return row_from_bytes(row_places(enough, w - w % 2)[0::2])
+
+
+def do_half(k, w, h, x):
+    if not (1 <= k <= 4 and size_fits(w, h)):
+        return [-2]
+    page = page_from_words(w, h, x)
+    return answer_page(w // 2, [half_row(k, w, page[2 * r], page[2 * r + 1]) for r in range(h // 2)])

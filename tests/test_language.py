@@ -24,6 +24,10 @@ INTERFACE = {
     "do_keep": "k, w, h, x",
     "do_thin": "w, h, x",
     "do_counts": "w, h, x",
+    "do_runs": "r, w, h, x",
+    "do_turn": "q, w, h, x",
+    "do_mirror": "w, h, x",
+    "do_half": "k, w, h, x",
 }
 
 NODES = set("""Module Expr Constant FunctionDef arguments arg Return If While For Break Continue Pass Assign AugAssign
