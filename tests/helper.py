@@ -2,6 +2,7 @@
 
 SIDES = (1, 2, 31, 32, 33, 64, 65, 255, 256)
 TOP = 4294967295
+DIGITS = bytes.maketrans(bytes([0, 1]), b"01")
 
 
 class ReadOnlyList(list):
@@ -68,8 +69,10 @@ def words(rows, behind=0):
     for row in rows:
         width = (len(row) + 31) // 32
         places = row + [behind] * (32 * width - len(row))
-        for k in range(width):
-            told.append(sum(places[32 * k + i] * 2 ** i for i in range(32)))
+        # Digits are written from the highest on, places from the lowest.
+        digits = bytes(reversed(places)).translate(DIGITS)
+        for k in reversed(range(width)):
+            told.append(int(digits[32 * k:32 * k + 32], 2))
     return told
 
 

@@ -1,7 +1,7 @@
 import unittest
 
 from dotpages.dots import do_fit, do_keep
-from tests.helper import (TOP, at, check_answer, check_page, check_refused, check_sizes_refused, edge_dots, frame, grid,
+from tests.helper import (TOP, at, check_page, check_refused, check_sizes_refused, edge_dots, frame, grid,
                           picture, plain, sizes, some_grids, words)
 
 # Number by number: columns to the right, rows down.
@@ -112,7 +112,7 @@ class Fit(unittest.TestCase):
                 self.check_fit(*PATTERNS[k % len(PATTERNS)], dots)
 
     def test_dots_at_the_edges(self):
-        for k, (w, h) in enumerate(((1, 1), (1, 2), (2, 1), (2, 2), (31, 3), (32, 2), (33, 3), (64, 2), (65, 5), (3, 65))):
+        for w, h in ((1, 1), (1, 2), (2, 1), (2, 2), (31, 3), (32, 2), (33, 3), (64, 2), (65, 5), (3, 65)):
             for dots in edge_dots(w, h) + [frame(w, h)]:
                 for black, white in PATTERNS:
                     self.check_fit(black, white, dots)

@@ -2,8 +2,8 @@ import functools
 import unittest
 
 from dotpages.dots import do_thin
-from tests.helper import (at, check_page, check_sizes_refused, edge_dots, frame, grid, picture, plain, sizes, some_grids,
-                          words)
+from tests.helper import (at, check_page, check_sizes_refused, edge_dots, frame, grid, picture, plain, sizes,
+                          some_grids, words)
 
 # As a clock goes: columns to the right, rows down.
 EIGHT = ((0, -1), (1, -1), (1, 0), (1, 1), (0, 1), (-1, 1), (-1, 0), (-1, -1))

@@ -1,8 +1,8 @@
 import unittest
 
 from dotpages.dots import do_mirror, do_turn
-from tests.helper import (SIDES, TOP, check_answer, check_page, check_refused, check_sizes_refused, edge_dots, frame, grid,
-                          picture, plain, sizes, some_grids, words)
+from tests.helper import (SIDES, TOP, check_answer, check_page, check_refused, check_sizes_refused, edge_dots, frame,
+                          grid, picture, plain, sizes, some_grids, words)
 
 
 def turned(q, dots):
