@@ -131,15 +131,9 @@ def moved_row(row, right, black):
 
 
 def moved_page(page, right, down, black):
-    moved = []
-    for r in range(len(page)):
-        source = r - down
-        # Asked for on both sides, since an index below 0 would read rows from the end.
-        if 0 <= source < len(page):
-            moved.append(moved_row(page[source], right, black))
-        else:
-            moved.append(0)
-    return moved
+    h = len(page)
+    # Asked for on both sides, since an index below 0 would read rows from the end.
+    return [moved_row(page[r - down], right, black) if 0 <= r - down < h else 0 for r in range(h)]
 
 
 def do_move(dx, dy, w, h, x):
@@ -197,19 +191,13 @@ def do_thinner(dx, dy, w, h, x):
 
 
 def do_open(dx, dy, w, h, x):
-    if not (reach_fits(dx, dy) and size_fits(w, h)):
-        return [-2]
-    black = black_row(w)
-    thin = thinner_page(page_from_words(w, h, x), dx, dy, black)
-    return answer_page(w, thicker_page(thin, dx, dy, black))
+    # What the first refuses the second refuses too, since both have the same ranges and look at them first.
+    return do_thicker(dx, dy, w, h, do_thinner(dx, dy, w, h, x)[1:])
 
 
 def do_close(dx, dy, w, h, x):
-    if not (reach_fits(dx, dy) and size_fits(w, h)):
-        return [-2]
-    black = black_row(w)
-    thick = thicker_page(page_from_words(w, h, x), dx, dy, black)
-    return answer_page(w, thinner_page(thick, dx, dy, black))
+    # As with do_open, a refusal comes through.
+    return do_thinner(dx, dy, w, h, do_thicker(dx, dy, w, h, x)[1:])
 
 
 def sheet_from_page(w, page):
@@ -329,16 +317,9 @@ def do_runs(r, w, h, x):
     return [count, count] + changes[0::2] + [count] + lengths
 
 
-def row_from_last(places):
-    row = 0
-    for place in places:
-        row = (row << 1) | place
-    return row
-
-
 def quarter_turned(w, page):
-    # The column of the first row is the last, so each new row has its places from the last on.
-    return [row_from_last(column_places(page, c)) for c in range(w)]
+    # The column of the first row is the last, so each new row is a column read from below.
+    return [row_from_bytes(column_places(page, c)[::-1]) for c in range(w)]
 
 
 def do_turn(q, w, h, x):
@@ -356,7 +337,7 @@ def do_turn(q, w, h, x):
 def do_mirror(w, h, x):
     if not size_fits(w, h):
         return [-2]
-    return answer_page(w, [row_from_last(row_places(row, w)) for row in page_from_words(w, h, x)])
+    return answer_page(w, [row_from_bytes(row_places(row, w)[::-1]) for row in page_from_words(w, h, x)])
 
 
 def half_row(k, w, above, below):
@@ -369,3 +350,40 @@ def do_half(k, w, h, x):
         return [-2]
     page = page_from_words(w, h, x)
     return answer_page(w // 2, [half_row(k, w, page[2 * r], page[2 * r + 1]) for r in range(h // 2)])
+
+
+def doubled_row(row, w):
+    return row_from_bytes([(row >> (c // 2)) & 1 for c in range(2 * w)])
+
+
+def do_double(w, h, x):
+    if not size_fits(w, h):
+        return [-2]
+    page = [doubled_row(row, w) for row in page_from_words(w, h, x)]
+    return answer_page(2 * w, [page[r // 2] for r in range(2 * h)])
+
+
+def do_box(w, h, x):
+    if not size_fits(w, h):
+        return [-2]
+    page = page_from_words(w, h, x)
+    rows = [r for r, row in enumerate(page) if row != 0]
+    if len(rows) == 0:
+        return [-6]
+    columns = [c for c, place in enumerate(row_places(joined_rows(page), w)) if place == 1]
+    return [0, columns[0], rows[0], columns[-1] - columns[0] + 1, rows[-1] - rows[0] + 1]
+
+
+def do_cut(x0, y0, uu, vv, w, h, x):
+    if not (size_fits(w, h) and 1 <= uu <= w - x0 and 1 <= vv <= h - y0):
+        return [-2]
+    page = page_from_words(w, h, x)
+    return answer_page(uu, [(row >> x0) & black_row(uu) for row in page[y0:y0 + vv]])
+
+
+def do_apart(w, h, x, y):
+    if not size_fits(w, h):
+        return [-2]
+    first = page_from_words(w, h, x)
+    second = page_from_words(w, h, y)
+    return [sum([sum(row_places(first[r] ^ second[r], w)) for r in range(h)])]

@@ -50,12 +50,19 @@ def at(dots, c, r):
 
 def edge_dots(w, h):
     """Pages with one dot: in each corner and amid each edge."""
-    pages = []
-    for c, r in sorted({(0, 0), (w - 1, 0), (0, h - 1), (w - 1, h - 1), (w // 2, 0), (w // 2, h - 1), (0, h // 2),
-                        (w - 1, h // 2)}):
-        pages.append(plain(w, h, 0))
-        pages[-1][r][c] = 1
-    return pages
+    places = {(0, 0), (w - 1, 0), (0, h - 1), (w - 1, h - 1), (w // 2, 0), (w // 2, h - 1), (0, h // 2),
+              (w - 1, h // 2)}
+    return [one_dot(w, h, c, r) for c, r in sorted(places)]
+
+
+def one_dot(w, h, c, r):
+    dots = plain(w, h, 0)
+    dots[r][c] = 1
+    return dots
+
+
+def opposite(dots):
+    return [[1 - place for place in row] for row in dots]
 
 
 def frame(w, h):
@@ -117,15 +124,19 @@ def check_refused(case, function, *args):
     check_answer(case, [-2], function, *[[] if isinstance(arg, list) else arg for arg in args])
 
 
-def check_sizes_refused(case, function, numbers, pages):
-    """function(*numbers, w, h, *pages of words) is refused for every w and h out of range, and for no edge."""
+def check_sizes_refused(case, function, numbers, pages, white=0):
+    """function(*numbers, w, h, *pages of words) is refused for every w and h out of range, and for no edge.
+
+    Of white pages it answers the number white first.
+    """
     for w, h in ((0, 1), (1, 0), (0, 0), (257, 1), (1, 257), (257, 256), (256, 257), (257, 257),
                  (TOP, 1), (1, TOP), (TOP, TOP), (0, TOP), (2 ** 31, 1), (1, 2 ** 31), (258, 3), (3, 258)):
         full = [5] * min(2400, (w + 31) // 32 * h)
         with case.subTest(w=w, h=h):
             check_refused(case, function, *numbers, w, h, *[full] * pages)
             check_refused(case, function, *numbers, w, h, *[[TOP] * 2400] * pages)
+            check_refused(case, function, *numbers, w, h, *[[0] * len(full)] * pages)
     for w, h in ((1, 1), (256, 1), (1, 256), (256, 256)):
         full = [0] * ((w + 31) // 32 * h)
         with case.subTest(w=w, h=h):
-            case.assertEqual(0, function(*numbers, w, h, *[full] * pages)[0])
+            case.assertEqual(white, function(*numbers, w, h, *[full] * pages)[0])

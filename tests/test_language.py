@@ -28,6 +28,10 @@ INTERFACE = {
     "do_turn": "q, w, h, x",
     "do_mirror": "w, h, x",
     "do_half": "k, w, h, x",
+    "do_double": "w, h, x",
+    "do_box": "w, h, x",
+    "do_cut": "x0, y0, uu, vv, w, h, x",
+    "do_apart": "w, h, x, y",
 }
 
 NODES = set("""Module Expr Constant FunctionDef arguments arg Return If While For Break Continue Pass Assign AugAssign
