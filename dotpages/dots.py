@@ -387,3 +387,8 @@ def do_apart(w, h, x, y):
     first = page_from_words(w, h, x)
     second = page_from_words(w, h, y)
     return [sum([sum(row_places(first[r] ^ second[r], w)) for r in range(h)])]
+
+
+def do_table1(t, a, b, c):
+    # A word is a row without a bit behind its last column, and of t no more than eight bits are looked at.
+    return [three_rows(t, WORD_FULL, a, b, c)]

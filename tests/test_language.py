@@ -32,6 +32,7 @@ INTERFACE = {
     "do_box": "w, h, x",
     "do_cut": "x0, y0, uu, vv, w, h, x",
     "do_apart": "w, h, x, y",
+    "do_table1": "t, a, b, c",
 }
 
 NODES = set("""Module Expr Constant FunctionDef arguments arg Return If While For Break Continue Pass Assign AugAssign
@@ -108,6 +109,9 @@ class Interface(unittest.TestCase):
             function = getattr(dotpages.dots, name)
             self.assertEqual("(%s)" % arguments, str(inspect.signature(function)))
             self.assertEqual("dotpages.dots", function.__module__)
+
+    def test_no_other_call(self):
+        self.assertEqual(sorted(INTERFACE), sorted(name for name in vars(dotpages.dots) if name.startswith("do_")))
 
 
 if __name__ == "__main__":
